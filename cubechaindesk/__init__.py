@@ -1,0 +1,1 @@
+"""A chain of cubes: in how many ways it folds into a block."""
