@@ -14,6 +14,7 @@ CELL_IS_FILLED = -4
 NO_NEIGHBOUR = -2
 WRONG_DIRECTION = -6
 NOTHING_FILLED = -9
+NO_SUCH_FOLDING = -3
 ALLOWED = 0
 
 BLOCK = 0
@@ -22,7 +23,10 @@ FILL = 2
 BACK = 3
 GO = 4
 FOLDINGS = 5
+WHICH = 6
 IS_FOLDING = 7
+CHAINS = 8
+SINGLE = 9
 
 # By a call's number: how many whole numbers it has. The calls with a row have none but those of the row.
 WHOLE_NUMBERS = (3, 0, 1, 0, 0, 0, 1, 0, 0, 0, 0)
@@ -80,24 +84,32 @@ def turns_as_wanted(steps, inner, row, cell):
     return (came == goes) == (inner[len(row) - 2] == STRAIGHT)
 
 
-def longer_rows(steps, inner, row):
-    """The rows that have one cell more than row, in order."""
-    longer = []
-    for cell in steps[row[-1]]:
-        if cell not in row and turns_as_wanted(steps, inner, row, cell):
-            longer.append(row + [cell])
-    return longer
-
-
-def find_foldings(steps, inner):
-    """All foldings of the chain, in order."""
+def find_rows(steps):
+    """All rows of all cells, each the neighbour of the one ahead of it, in order."""
     rows = [[cell] for cell in range(len(steps))]
     for length in range(2, len(steps) + 1):
         longer = []
         for row in rows:
-            longer.extend(longer_rows(steps, inner, row))
+            longer.extend([row + [cell] for cell in steps[row[-1]] if cell not in row])
         rows = longer
     return rows
+
+
+def inner_cubes(steps, row):
+    """The inner cubes of the one chain that has this row as a folding."""
+    ways = [steps[row[place]][row[place + 1]] for place in range(len(row) - 1)]
+    return tuple([STRAIGHT if ways[place] == ways[place + 1] else CORNER for place in range(len(ways) - 1)])
+
+
+def foldings_by_chain(steps):
+    """For each chain that has a folding: all its foldings, in order."""
+    by_chain = {}
+    for row in find_rows(steps):
+        inner = inner_cubes(steps, row)
+        if inner not in by_chain:
+            by_chain[inner] = []
+        by_chain[inner].append(row)
+    return by_chain
 
 
 def held_as(sides, order, ends):
@@ -139,16 +151,22 @@ class Desk:
     """One block, one chain, and the cells filled so far."""
 
     def __init__(self):
-        self.sides = FIRST_SIDES
-        self.steps = block_steps(FIRST_SIDES)
-        self.inner = []
-        self.filled = []
-        self.all_rows = find_foldings(self.steps, self.inner)
+        self.searched = {}
+        self.take_block(FIRST_SIDES)
+
+    def take_block(self, sides):
+        self.sides = sides
+        self.steps = block_steps(sides)
+        if sides not in self.searched:
+            # A block may come back often among the calls, but need be searched only once.
+            self.searched[sides] = foldings_by_chain(self.steps)
+        self.by_chain = self.searched[sides]
+        self.take_chain([CORNER] * (len(self.steps) - 2))
 
     def take_chain(self, inner):
         self.inner = inner
         self.filled = []
-        self.all_rows = find_foldings(self.steps, inner)
+        self.all_rows = self.by_chain.get(tuple(inner), [])
 
     def rows_begun(self):
         """The foldings that begin as it's filled, in order."""
@@ -158,9 +176,7 @@ class Desk:
     def block(self, sides):
         if not is_block(sides):
             return [NO_BLOCK]
-        self.sides = sides
-        self.steps = block_steps(sides)
-        self.take_chain([CORNER] * (len(self.steps) - 2))
+        self.take_block(sides)
         return [len(self.steps)]
 
     def chain(self, inner):
@@ -171,22 +187,22 @@ class Desk:
         self.take_chain(inner)
         return [inner.count(CORNER)]
 
-    def judge_fill(self, cell):
-        """The refusal that's told first, or ALLOWED."""
+    def judge_next(self, row, cell):
+        """Whether the cell may come behind a row that is right: the refusal that's told first, or ALLOWED."""
         if cell >= len(self.steps):
             return NO_CELL
-        if cell in self.filled:
+        if cell in row:
             return CELL_IS_FILLED
-        if len(self.filled) == 0:
+        if len(row) == 0:
             return ALLOWED
-        if cell not in self.steps[self.filled[-1]]:
+        if cell not in self.steps[row[-1]]:
             return NO_NEIGHBOUR
-        if not turns_as_wanted(self.steps, self.inner, self.filled, cell):
+        if not turns_as_wanted(self.steps, self.inner, row, cell):
             return WRONG_DIRECTION
         return ALLOWED
 
     def fill(self, cell):
-        judged = self.judge_fill(cell)
+        judged = self.judge_next(self.filled, cell)
         if judged != ALLOWED:
             return [judged]
         self.filled.append(cell)
@@ -209,6 +225,37 @@ class Desk:
         how_many = len(self.rows_begun())
         return [how_many, count_looks(self.sides, self.filled, how_many)]
 
+    def which(self, k):
+        rows = self.rows_begun()
+        if k >= len(rows):
+            return [NO_SUCH_FOLDING]
+        return [0] + rows[k]
+
+    def is_folding(self, cells):
+        looked_at = cells[:len(self.steps)]
+        for place, cell in enumerate(looked_at):
+            if self.judge_next(looked_at[:place], cell) != ALLOWED:
+                return [0, place]
+        if len(looked_at) < len(self.steps):
+            return [0, len(looked_at)]
+        return [1]
+
+    def chains(self):
+        return [len(self.by_chain), sum([len(rows) for rows in self.by_chain.values()])]
+
+    def single(self):
+        # With nothing filled, each look has as many foldings as there are ways to hold the block (count_looks).
+        alike = len(ways_to_hold(self.sides))
+        found = [inner for inner in sorted(self.by_chain) if len(self.by_chain[inner]) == alike]
+        if len(found) == 0:
+            return [0]
+        return [len(found)] + list(found[0])
+
+    def corners(self):
+        # Of those with as few corners, the lowest row is the first one.
+        fewest = min([(inner.count(CORNER), inner) for inner in self.by_chain])
+        return [fewest[0]] + list(fewest[1])
+
 
 def answer_call(desk, number, given):
     """What the call answers. Given are its whole numbers, or the numbers of its row."""
@@ -224,8 +271,15 @@ def answer_call(desk, number, given):
         return desk.go()
     if number == FOLDINGS:
         return desk.foldings()
-    # The other calls are read, so that those behind them are found, but nothing is answered yet.
-    return []
+    if number == WHICH:
+        return desk.which(given[0])
+    if number == IS_FOLDING:
+        return desk.is_folding(given)
+    if number == CHAINS:
+        return desk.chains()
+    if number == SINGLE:
+        return desk.single()
+    return desk.corners()
 
 
 def answers(calls):

@@ -37,6 +37,26 @@ def foldings():
     return [FOLDINGS]
 
 
+def which(k):
+    return [WHICH, k]
+
+
+def is_folding(*cells):
+    return [IS, len(cells), *cells]
+
+
+def chains():
+    return [CHAINS]
+
+
+def single():
+    return [SINGLE]
+
+
+def corners():
+    return [CORNERS]
+
+
 def parted(answered):
     """The answers of each call as a list of its own."""
     parts = []
@@ -60,9 +80,24 @@ def last(*calls):
     return ask(*calls)[-1]
 
 
+def in_parts(ahead, calls):
+    """The calls in parts that make a list of at most 40 calls each behind those ahead."""
+    most = 40 - len(ahead)
+    return [calls[start:start + most] for start in range(0, len(calls), most)]
+
+
+def ask_each(ahead, calls):
+    """What each of many calls answers, in as many lists as they need, behind those ahead in each."""
+    return [answer for part in in_parts(ahead, calls) for answer in ask(*ahead, *part)[len(ahead):]]
+
+
 def all_blocks():
     sides = range(1, 13)
     return [s for s in itertools.product(sides, sides, sides) if 2 <= s[0] * s[1] * s[2] <= 12]
+
+
+def size_of(sides):
+    return sides[0] * sides[1] * sides[2]
 
 
 def number_of(sides, spot):
@@ -121,6 +156,19 @@ def look_of(sides, path):
     return min(images)
 
 
+@functools.lru_cache(maxsize=None)
+def single_chains(sides):
+    """The chains of which all foldings look alike, in order."""
+    return sorted(inner for inner, paths in paths_by_chain(sides).items()
+                  if len({look_of(sides, path) for path in paths}) == 1)
+
+
+def fewest_corners(sides):
+    """The chains with the fewest corners, in order."""
+    least = min(sum(inner) for inner in paths_by_chain(sides))
+    return sorted(inner for inner in paths_by_chain(sides) if sum(inner) == least)
+
+
 class PlainDesk:
     """The same calls, answered by the plain search."""
 
@@ -130,7 +178,11 @@ class PlainDesk:
         self.filled = []
 
     def size(self):
-        return self.sides[0] * self.sides[1] * self.sides[2]
+        return size_of(self.sides)
+
+    def spots(self):
+        return {number_of(self.sides, spot): spot
+                for spot in itertools.product(*(range(side) for side in self.sides))}
 
     def begun(self):
         """The foldings that begin as it's filled: their cells' numbers, and their paths."""
@@ -157,8 +209,7 @@ class PlainDesk:
         return [sum(inner)]
 
     def fill(self, cell):
-        spots = {number_of(self.sides, spot): spot
-                 for spot in itertools.product(*(range(side) for side in self.sides))}
+        spots = self.spots()
         if cell not in spots:
             return [-1]
         if cell in self.filled:
@@ -186,14 +237,43 @@ class PlainDesk:
         begun = self.begun()
         return [len(begun), len({look_of(self.sides, path) for row, path in begun})]
 
+    def which(self, k):
+        rows = sorted(row for row, path in self.begun())
+        return [0] + rows[k] if k < len(rows) else [-3]
+
+    def begins_right(self, cells):
+        spots = self.spots()
+        if not set(cells) <= set(spots) or len(set(cells)) < len(cells):
+            return False
+        path = [spots[cell] for cell in cells]
+        if any(sum(abs(d) for d in apart(p, q)) != 1 for p, q in zip(path, path[1:])):
+            return False
+        turns = inner_cubes(path)
+        return turns == self.inner[:len(turns)]
+
+    def is_folding(self, *cells):
+        for many in range(1, self.size() + 1):
+            if many > len(cells) or not self.begins_right(cells[:many]):
+                return [0, many - 1]
+        return [1]
+
+    def chains(self):
+        return [len(paths_by_chain(self.sides)), len(all_paths(self.sides))]
+
+    def single(self):
+        found = single_chains(self.sides)
+        return [len(found)] + [cube for inner in found[:1] for cube in inner]
+
+    def corners(self):
+        inner = fewest_corners(self.sides)[0]
+        return [sum(inner), *inner]
+
     def answer(self, call):
-        if call[0] == BLOCK:
-            return self.block(*call[1:])
-        if call[0] == CHAIN:
-            return self.chain(*call[2:])
-        if call[0] == FILL:
-            return self.fill(call[1])
-        return {BACK: self.back, GO: self.go, FOLDINGS: self.foldings}[call[0]]()
+        number, given = call[0], call[1:]
+        if number in (CHAIN, IS):
+            given = given[1:]
+        return (self.block, self.chain, self.fill, self.back, self.go, self.foldings, self.which,
+                self.is_folding, self.chains, self.single, self.corners)[number](*given)
 
 
 def plain(*calls):

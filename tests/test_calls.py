@@ -2,14 +2,22 @@
 
 import contextlib
 import io
+import itertools
 import random
+import time
 import unittest
 
 from cubechaindesk.foldings import answers
-from helper import (HUGE, all_blocks, ask, back, block, chain, fill, foldings, go, number_of, parted,
-                    paths_by_chain, plain)
+from helper import (HUGE, all_blocks, ask, back, block, chain, chains, corners, fill, foldings, go, is_folding,
+                    number_of, parted, paths_by_chain, plain, single, which)
 
-LATER_CALLS = ([6, 0], [7, 0], [7, 4, 0, 1, 3, 2], [7, 14] + [HUGE] * 14, [8], [9], [10])
+# Each call but corners (as chains and single are there already), answered and refused, and what they answer.
+MIXED = [0, 2, 2, 1, 1, 2, 1, 1, 2, 0, 4, 5, 6, 1, 7, 4, 0, 1, 3, 2, 8, 9, 3,
+         0, 0, 0, 0, 1, 0, 2, 4, 3, 6, 8, 7, 1, 4, 7, 0]
+MIXED_ANSWERS = [1, 4, 1, 2, 1, 2, 3, 2, 1, 2, 2, 2, 1, 5, 0, 0, 2, 3, 1, 1, 1, 2, 1, 8, 3, 1, 1, 1, 1, 8,
+                 1, -1, 1, -1, 1, -1, 1, -9, 1, -3, 2, 0, 0, 2, 0, 0]
+OF_ALL_CHAINS = (chains(), single(), corners())
+LONG_WAIT = 5
 
 
 class Guarded(list):
@@ -23,7 +31,7 @@ class Guarded(list):
 
 
 def some_call(dice):
-    kind = dice.randrange(12)
+    kind = dice.randrange(16)
     if kind == 0:
         return block(*(dice.choice((0, 1, 1, 2, 2, 3, 4, 12, 13, HUGE)) for side in range(3)))
     if kind == 1:
@@ -32,7 +40,19 @@ def some_call(dice):
         return block(*dice.choice(all_blocks()))
     if kind < 8:
         return fill(dice.choice((*range(14), HUGE)))
-    return dice.choice((back(), go(), foldings(), foldings()))
+    if kind == 8:
+        return which(dice.choice((0, 1, 2, 7, 143, HUGE)))
+    if kind == 9:
+        return is_folding(*(dice.choice((*range(13), HUGE)) for cell in range(dice.randrange(15))))
+    return dice.choice((back(), go(), foldings(), which(0), is_folding(0, 1)))
+
+
+def strewn(dice, calls):
+    """The calls with two of chains, single and corners among them."""
+    calls = list(calls)
+    for call in dice.choices(OF_ALL_CHAINS, k=2):
+        calls.insert(dice.randrange(len(calls) + 1), call)
+    return calls
 
 
 def some_way(dice):
@@ -44,9 +64,9 @@ def some_way(dice):
     for cell in row:
         if dice.randrange(4) == 0:
             calls.append(fill(dice.randrange(13)))
-            calls.append(dice.choice((back(), go(), foldings(), chain(), block(0, 1, 2))))
+            calls.append(dice.choice((back(), go(), foldings(), chain(), block(0, 1, 2), which(1), is_folding(*row))))
         calls.append(fill(cell))
-    return calls[:38] + [go(), foldings()]
+    return calls[:34] + [go(), foldings(), which(0), is_folding(*row[:-1])]
 
 
 class OneList(unittest.TestCase):
@@ -80,30 +100,76 @@ class OneList(unittest.TestCase):
     def test_random_lists_against_the_plain_search(self):
         dice = random.Random(1)
         for turn in range(300):
-            calls = [some_call(dice) for call in range(dice.randrange(1, 41))]
+            calls = strewn(dice, [some_call(dice) for call in range(dice.randrange(39))])
             self.assertEqual(ask(*calls), plain(*calls), calls)
 
     def test_random_ways_against_the_plain_search(self):
         dice = random.Random(2)
         for turn in range(300):
-            calls = some_way(dice)
+            calls = strewn(dice, some_way(dice))
             self.assertLessEqual(len(calls), 40)
             self.assertEqual(ask(*calls), plain(*calls), calls)
 
-    def test_later_calls_are_read_in_their_form(self):
-        for later in LATER_CALLS:
-            answered = ask(block(2, 2, 1), fill(0), later, foldings(), fill(1))
-            self.assertEqual(len(answered), 5)
-            self.assertEqual(answered[:2] + answered[3:], [[4], [2], [2, 1], [1]], later)
+    def test_each_of_the_eleven_among_others(self):
+        self.assertEqual(answers(MIXED), MIXED_ANSWERS)
+        self.assertEqual(answers([10, 0, 2, 2, 1, 10, 5]), [1, 0, 1, 4, 3, 2, 1, 1, 2, 8, 1])
+
+    def test_the_eleven_in_any_order(self):
+        dice = random.Random(4)
+        eleven = [block(3, 2, 1), chain(0, 1, 1, 0), fill(0), back(), go(), foldings(), which(1),
+                  is_folding(0, 1, 2, 5, 4, 3)]
+        for turn in range(200):
+            calls = strewn(dice, dice.sample(eleven * 4, k=dice.choice((8, 20, 32))))
+            self.assertEqual(ask(*calls), plain(*calls), calls)
+
+    def test_two_behind_one_another(self):
+        some = [block(3, 2, 1), block(0, 0, 0), chain(0, 1, 1, 0), chain(), fill(0), fill(HUGE), back(), go(),
+                foldings(), which(0), which(HUGE), is_folding(), is_folding(0, 1, 2, 5, 4, 3), *OF_ALL_CHAINS]
+        for one, other in itertools.product(some, some):
+            calls = (one, other)
+            self.assertEqual(ask(*calls), plain(*calls), calls)
+
+    def test_the_most_numbers(self):
+        cells = (0, 1, 3, 2, 6, 7, 5, 4, 8, 9, 11, 10)
+        calls = [block(2, 2, 3)] + [is_folding(*cells, HUGE, HUGE), chain(*[1] * 14), is_folding(*[0] * 14)] * 13
+        self.assertEqual(sum(len(call) for call in calls), 4 + 39 * 16)
+        self.assertEqual(ask(*calls), [[12]] + [[1], [-1], [0, 1]] * 13)
+        # Forty calls can't have more numbers than 40 times these 16.
+        self.assertEqual(ask(*[is_folding(*[HUGE] * 14)] * 40), [[0, 0]] * 40)
+
+
+class NoLongWait(unittest.TestCase):
+    def soon(self, calls):
+        self.assertEqual(len(calls), 40)
+        begun = time.perf_counter()
+        ask(*calls)
+        self.assertLess(time.perf_counter() - begun, LONG_WAIT)
+
+    def test_one_block_of_twelve(self):
+        for pair in itertools.product(OF_ALL_CHAINS, OF_ALL_CHAINS):
+            for sides in ((2, 2, 3), (4, 3, 1), (12, 1, 1)):
+                self.soon([block(*sides)] + [which(383), foldings(), go()] * 12 + [fill(0), *pair])
+
+    def test_many_blocks_of_twelve(self):
+        orders = [block(*sides) for sides in itertools.permutations((2, 2, 3))]
+        for pair in itertools.product(OF_ALL_CHAINS, OF_ALL_CHAINS):
+            self.soon([orders[turn % 6] for turn in range(38)] + list(pair))
+
+    def test_many_chains_of_twelve(self):
+        inner = sorted(paths_by_chain((2, 2, 3)))
+        changed = [chain(*inner[turn % len(inner)]) for turn in range(18)]
+        calls = [call for row in changed for call in (row, foldings())]
+        self.soon([block(2, 2, 3)] + calls + [go(), single(), chains()])
 
 
 class HandedIn(unittest.TestCase):
     def test_it_is_not_changed(self):
-        calls = [0, 3, 2, 1, 1, 4, 0, 1, 1, 0, 2, 0, 2, 1, 3, 4, 5, 1, 2, 7, 7, 0, 0, 0, 0, 2, 99, 3, 3]
-        kept = list(calls)
-        first = answers(calls)
-        self.assertEqual(calls, kept)
-        self.assertEqual(answers(Guarded(calls)), first)
+        others = [0, 3, 2, 1, 1, 4, 0, 1, 1, 0, 2, 0, 2, 1, 3, 4, 5, 1, 2, 7, 7, 10, 0, 0, 0, 0, 2, 99, 3, 3, 10]
+        for calls in (MIXED, others):
+            kept = list(calls)
+            first = answers(calls)
+            self.assertEqual(calls, kept)
+            self.assertEqual(answers(Guarded(calls)), first)
 
     def test_nothing_is_kept(self):
         calls = [0, 2, 2, 1, 2, 0, 5]
@@ -113,16 +179,32 @@ class HandedIn(unittest.TestCase):
         first.append(7)
         self.assertEqual(answers(calls), [1, 4, 1, 2, 2, 2, 1])
 
+    def test_a_second_time_is_as_the_first(self):
+        for turn in range(2):
+            first = answers(MIXED)
+            self.assertEqual(first, MIXED_ANSWERS)
+            first.clear()
+            self.assertEqual(answers([6, 0, 7, 2, 0, 1, 8, 9]), [3, 0, 0, 1, 1, 1, 2, 1, 2, 1, 1])
+            self.assertEqual(answers([10, 9]), [1, 0, 1, 1])
+
     def test_whole_numbers_in_a_list(self):
-        answered = answers([0, 2, 2, 1, 1, 2, 1, 1, 2, 0, 4, 5, 3, 3, 0, 0, 0, 0, 1, 0, 1, 2, 0, 0, 4, 5])
-        self.assertIs(type(answered), list)
-        self.assertEqual({type(number) for number in answered}, {int})
-        self.assertEqual(len(parted(answered)), 12)
+        for calls, many in ((MIXED, 17), ([0, 3, 3, 1, 10, 9, 4, 5, 2, 0, 3, 3, 1, 0], 9), ([9, 10], 2)):
+            answered = answers(calls)
+            self.assertIs(type(answered), list)
+            self.assertEqual({type(number) for number in answered}, {int})
+            self.assertEqual(len(parted(answered)), many)
+
+    def test_whole_numbers_at_random(self):
+        dice = random.Random(5)
+        for turn in range(50):
+            answered = answers([number for call in strewn(dice, some_way(dice)) for number in call])
+            self.assertEqual({type(number) for number in answered}, {int})
 
     def test_nothing_is_printed(self):
         said = io.StringIO()
         with contextlib.redirect_stdout(said), contextlib.redirect_stderr(said):
-            answers([0, 2, 2, 1, 5, 4, 3, 0, 0, 0, 0])
+            answers(MIXED)
+            answers([10])
         self.assertEqual(said.getvalue(), "")
 
 

@@ -68,6 +68,9 @@ class Rows(unittest.TestCase):
 
 
 class Code(unittest.TestCase):
+    def setUp(self):
+        self.kept = [tree for name, tree in trees()]
+
     def test_nothing_is_imported(self):
         self.assertEqual(nodes((ast.Import, ast.ImportFrom)), [])
 
@@ -114,6 +117,28 @@ class Code(unittest.TestCase):
         own |= {node.attr for name, node in nodes(ast.Attribute) if isinstance(node.ctx, ast.Store)}
         for name, node in nodes(ast.Attribute):
             self.assertIn(node.attr, own | OWN_METHODS, (name, node.lineno))
+
+    def test_no_name_is_both_method_and_value(self):
+        methods = {node.name for name, tree in nodes(ast.ClassDef) for node in tree.body
+                   if isinstance(node, ast.FunctionDef)}
+        values = {node.attr for name, node in nodes(ast.Attribute) if isinstance(node.ctx, ast.Store)}
+        self.assertEqual(methods & values, set())
+        own = [set(dir(kind)) for kind in (str, int, list, tuple, dict, set, bytes)]
+        self.assertEqual((methods | values) & set().union(*own) - {"__init__"}, set())
+
+    def test_methods_are_called_where_they_stand(self):
+        called = {id(node.func) for tree in self.kept for node in ast.walk(tree) if isinstance(node, ast.Call)}
+        for tree in self.kept:
+            for node in ast.walk(tree):
+                if isinstance(node, ast.Attribute) and node.attr in OWN_METHODS:
+                    self.assertIn(id(node), called, node.lineno)
+
+    def test_is_stands_beside_none_true_and_false(self):
+        for name, node in nodes(ast.Compare):
+            for sign, right in zip(node.ops, node.comparators):
+                if isinstance(sign, (ast.Is, ast.IsNot)):
+                    self.assertIsInstance(right, ast.Constant, (name, node.lineno))
+                    self.assertIn(right.value, (None, True, False), (name, node.lineno))
 
     def test_the_top_of_a_file_binds_each_name_once(self):
         for name, tree in trees():
